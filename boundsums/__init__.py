@@ -1,0 +1,1 @@
+"""Boundsums: stretches of numbers, told outward to a grid."""
