@@ -27,3 +27,10 @@ def is_pair_of_wholes(thing):
     if type(thing) is not tuple or len(thing) != 2:
         return False
     return is_whole(thing[0]) and is_whole(thing[1])
+
+
+def word_of(thing):
+    """The word that a tuple begins with; None where a thing has none."""
+    if type(thing) is tuple and len(thing) > 0 and type(thing[0]) is str:
+        return thing[0]
+    return None

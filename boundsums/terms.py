@@ -2,7 +2,7 @@
 
 from boundsums.errors import BadTerm, NoLetter
 from boundsums.fractions import added, compared, divided, is_fraction, multiplied, need_fraction, taken
-from boundsums.kinds import is_power_count, is_whole_within
+from boundsums.kinds import is_power_count, is_whole_within, word_of
 
 PAIRED = ("plus", "minus", "times", "over", "least", "most")
 SMALL_LETTERS = "abcdefghijklmnopqrstuvwxyz"
@@ -25,12 +25,18 @@ def letters(term):
     return sorted(set(_names_in(term)))
 
 
-def value(term, point):
-    """What a term comes to at a point; None where it is divided by nought."""
+def letters_given(term, given):
+    """The names of a term's letters, rising; the first that is not given is refused."""
     names = letters(term)
     for name in names:
-        if not isinstance(point, dict) or name not in point:
+        if not isinstance(given, dict) or name not in given:
             raise NoLetter(name)
+    return names
+
+
+def value(term, point):
+    """What a term comes to at a point; None where it is divided by nought."""
+    names = letters_given(term, point)
     return _worth(term, {name: need_fraction(point[name]) for name in names})
 
 
@@ -38,7 +44,7 @@ def _parts_of(thing, deep):
     """How many parts a term has; refused where it is none, or deeper than deep."""
     if deep == 0:
         raise BadTerm("a term is at most 12 deep")
-    word = _word_of(thing)
+    word = word_of(thing)
     if word == "letter" and _is_letter(thing):
         return 1
     if word == "number" and _is_number(thing):
@@ -48,13 +54,6 @@ def _parts_of(thing, deep):
     if word in PAIRED and len(thing) == 3:
         return 1 + _parts_of(thing[1], deep - 1) + _parts_of(thing[2], deep - 1)
     raise BadTerm("this is no term")
-
-
-def _word_of(thing):
-    """The word that a tuple begins with; None where a thing has none."""
-    if type(thing) is tuple and len(thing) > 0 and type(thing[0]) is str:
-        return thing[0]
-    return None
 
 
 def _is_letter(thing):
@@ -101,10 +100,12 @@ def _raised(worth, count):
     # Asked before the count: to the power 0, too, a part that is none stays none.
     if worth is None:
         return None
-    raised = (1, 1)
+    top, bottom = 1, 1
     for _ in range(count):
-        raised = multiplied(raised, worth)
-    return raised
+        top = top * worth[0]
+        bottom = bottom * worth[1]
+    # Lowest terms stay so: to look for a common divisor again would take long.
+    return (top, bottom)
 
 
 def _joined(word, one, other):

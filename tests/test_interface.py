@@ -18,6 +18,10 @@ FUNCTIONS = {
         "most": "grid one other", "contrary": "grid one", "power": "grid one count",
     },
     "boundsums.terms": {"need_term": "thing", "letters": "term", "value": "term point"},
+    "boundsums.texts": {"written": "term", "read": "text"},
+    "boundsums.boxes": {"stretch_of": "grid term box", "parted": "box name at"},
+    "boundsums.showings": {"is_showing": "grid term box thing", "sought": "grid term box most"},
+    "boundsums.cells": {"cells": "grid term stretch"},
 }
 CLASSES = {
     "boundsums.errors": [
@@ -36,6 +40,12 @@ class InterfaceTest(unittest.TestCase):
                     deed = getattr(module, name)
                     self.assertEqual(deed.__module__, place)
                     self.assertEqual(" ".join(inspect.signature(deed).parameters), arguments)
+
+    def test_200_boxes_are_looked_at_unless_told_otherwise(self):
+        sought = importlib.import_module("boundsums.showings").sought
+        given = {name: one.default for name, one in inspect.signature(sought).parameters.items()}
+        empty = inspect.Parameter.empty
+        self.assertEqual(given, {"grid": empty, "term": empty, "box": empty, "most": 200})
 
     def test_classes_stand_in_their_file(self):
         for place, names in CLASSES.items():

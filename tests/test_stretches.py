@@ -1,12 +1,11 @@
 import unittest
 from fractions import Fraction
-from math import ceil, floor
 
 from boundsums.errors import BadCount, BadFraction, BadGrid, BadStretch, ByNought
 from boundsums.stretches import (
     contrary, holding, least, lies_in, minus, most, need_grid, need_stretch, over, plus, power, times,
 )
-from tests.things import NO_PAIRS, STRANGE, THIRTY, Unruly, refusal
+from tests.things import NO_PAIRS, STRANGE, THIRTY, Unruly, ends, held, refusal
 
 GRIDS = [1, 2, 3, 7, 10, 1000, 10 ** 9]
 STRETCHES = [
@@ -20,15 +19,6 @@ DEEDS = {
 BAD_GRIDS = STRANGE + [0, -1, 10 ** 9 + 1, THIRTY, "10", (1,), [1], 10.0]
 BAD_STRETCHES = NO_PAIRS + [(1, 0), (0, -1), (THIRTY, THIRTY - 1)]
 BAD_COUNTS = STRANGE + [-1, 9, THIRTY, -THIRTY, 2.0, (2,)]
-
-
-def held(grid, values):
-    """The least stretch on the grid in which exact values lie."""
-    return (floor(min(values) * grid), ceil(max(values) * grid))
-
-
-def ends(grid, stretch):
-    return [Fraction(stretch[0], grid), Fraction(stretch[1], grid)]
 
 
 def within(grid, stretch):

@@ -4,14 +4,13 @@ from fractions import Fraction
 
 from boundsums.errors import BadTerm, NoLetter
 from boundsums.terms import letters, need_term, value
-from tests.things import STRANGE, THIRTY, Unruly, refusal
+from tests.things import STRANGE, THIRTY, WORDS, Unruly, refusal
 
 A = ("letter", "a")
 B = ("letter", "b")
 ONE = ("number", 1, 1)
 NOUGHT = ("number", 0, 1)
 BROKEN = ("over", ONE, NOUGHT)
-WORDS = ["plus", "minus", "times", "over", "least", "most"]
 
 
 def deep(levels, word="plus"):
